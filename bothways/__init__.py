@@ -1,0 +1,1 @@
+"""Bothways: a small machine that runs forth and back."""
