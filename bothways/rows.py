@@ -44,3 +44,13 @@ def held_behind(row, held):
     elif kind == "turn":
         behind[row[1]] = -held[row[1]]
     return behind
+
+
+def drawers_named(row):
+    # The last number of a more, a nought and a less is no drawer.
+    kind = row[0]
+    if kind == "rest":
+        return ()
+    if kind in ("add", "take", "swap", "less"):
+        return (row[1], row[2])
+    return (row[1],)
